@@ -1,0 +1,1 @@
+"""A room for one, with tickets drawn by looking at all the others' tickets."""
