@@ -3,6 +3,7 @@
 from ticketroom.room import Room
 
 ON_THE_WAY = ("begins", "looks", "draws", "lowers", "asks", "sees", "enters")
+NO_HANDS = (-1, 10 ** 99, -(10 ** 99))
 
 
 def state(room):
